@@ -1,0 +1,1 @@
+"""Tightrows: columns kept packed, and asked as they lie."""
