@@ -139,3 +139,135 @@ def least_cuttings(values):
 
 def lengths_from_last(ends):
     return [end - begin for begin, end in zip([0] + ends, ends)][::-1]
+
+
+# Questions: what they answer, by the words of [3.1] and [4.3], value by value.
+
+def model_answers(question, value):
+    word, parts = question[0], question[1:]
+    if word == "not":
+        return not model_answers(parts[0], value)
+    if word == "both":
+        return model_answers(parts[0], value) and model_answers(parts[1], value)
+    if word == "either":
+        return model_answers(parts[0], value) or model_answers(parts[1], value)
+    if word in ("all", "none"):
+        return word == "all" or value is None
+    if value is None:
+        return False
+    tests = {"is": lambda v: value == v, "below": lambda v: value < v, "above": lambda v: value > v,
+             "among": lambda v: any(value == each for each in v)}
+    return tests[word](*parts)
+
+
+def model_where(where, row):
+    """Whether a row, a dict of its values by the columns' names, answers."""
+    word, parts = where[0], where[1:]
+    if word == "not":
+        return not model_where(parts[0], row)
+    if word == "both":
+        return model_where(parts[0], row) and model_where(parts[1], row)
+    if word == "either":
+        return model_where(parts[0], row) or model_where(parts[1], row)
+    return word == "any" or model_answers(parts[1], row[parts[0]])
+
+
+def within(inner, times, word="not", beside=("all",), place=1):
+    """A question with so many others around it: in the first or second part of each "both" or "either"."""
+    for _ in range(times):
+        inner = ("not", inner) if word == "not" else (word, inner, beside) if place == 1 else (word, beside, inner)
+    return inner
+
+
+def simple_questions(things):
+    """Of numbers or of words, each kind of question that has no other in it."""
+    told = [("all",), ("none",), ("among", []), ("among", list(things)), ("among", list(things[:2]) * 2)]
+    return told + [(word, thing) for thing in things for word in ("is", "below", "above")]
+
+
+def some_questions(seed, things, many):
+    source = random.Random(seed)
+    simple = simple_questions(things)
+    told = list(simple)
+    while len(told) < len(simple) + many:
+        told.append(some_joined(source, simple, source.randint(2, 6)))
+    return told
+
+
+def some_joined(source, simple, depth):
+    if depth == 1 or source.random() < 0.15:
+        return source.choice(simple)
+    word = source.choice(("not", "both", "either"))
+    return (word,) + tuple(some_joined(source, simple, depth - 1) for _ in range(1 if word == "not" else 2))
+
+
+def some_columns():
+    """Columns whose blocks are of each of the five kinds, and of several kinds."""
+    wide = [LEAST, GREATEST, -3000001, 2999999, 17, -999983]
+    return [
+        [], [0], [None], [GREATEST], [LEAST, GREATEST], wide, [None] * 64, [0] * 64, list(range(64)),
+        [LEAST] * 7 + [GREATEST] * 8 + [17] * 6, [LEAST, None, GREATEST] * 9, [1, None, 3, 2, None, 1, 4, 7] * 3,
+        [5, 6, 7, 8], [None] * 9 + wide + list(range(20)) + [3, None, 1] * 6,
+        wide[:4] + [LEAST] * 6 + [5] * 9 + [GREATEST] * 7 + [1, 2], [0] * 20 + wide + [None] * 20 + wide + [7] * 12,
+    ] + some_lists(41, [2, 3, 5, 8, 13, 21, 34, 55, 64])
+
+
+BAD_QUESTIONS = (
+    (), ("",), ("every",), ("All",), ("isnt", 3), ("in", 3), ("any",), ("and", ("all",), ("all",)),
+    ("all", 1), ("none", None), ("all", ("all",)), ("is",), ("is", 1, 2), ("below",), ("below", 1, 2), ("above",),
+    ("above", 1, 2), ("among",), ("among", [1], [2]), ("among", [1], 2), ("not",), ("not", ("all",), ("all",)),
+    ("both",), ("both", ("all",)), ("both", ("all",), ("all",), ("all",)), ("either",), ("either", ("all",)),
+    ("either", ("all",), ("all",), ("all",)), ("is", None), ("is", True), ("is", "a"), ("below", None),
+    ("above", "a"), ("among", [1, None]), ("among", ["a"]), ("among", [False]),
+)
+
+
+# Tables by the words of [4.1] to [4.3], row by row.
+
+class ModelTable:
+    def __init__(self, columns):
+        self.names = [name for name, kind in columns]
+        self.came = {name: [] for name, kind in columns if kind == "word"}
+        self.rows = {}
+        self.next = 0
+
+    def put(self, values):
+        for name, value in zip(self.names, values):
+            if name in self.came and value is not None and value not in self.came[name]:
+                self.came[name].append(value)
+        self.rows[self.next] = dict(zip(self.names, values))
+        self.next += 1
+        return self.next - 1
+
+    def kept(self, name):
+        values = [row[name] for row in self.rows.values()]
+        if name not in self.came:
+            return values
+        return [None if value is None else self.came[name].index(value) for value in values]
+
+    def where(self, where):
+        return [number for number, row in self.rows.items() if model_where(where, row)]
+
+    def sorted_by(self, name, falling):
+        by_value = {}
+        for number, row in self.rows.items():
+            by_value.setdefault(row[name], []).append(number)
+        without = by_value.pop(None, [])
+        rising = [by_value[value] for value in sorted(by_value)]
+        told = rising[::-1] + [without] if falling else [without] + rising
+        return [number for alike in told for number in alike]
+
+    def groups(self, by, where, of):
+        rows = [self.rows[number] for number in self.where(where)]
+        values = {row[by] for row in rows}
+        told = []
+        for value in [None] * (None in values) + sorted(values - {None}):
+            alike = [row[of] for row in rows if row[by] == value]
+            told.append((value, len(alike), sum(each or 0 for each in alike)))
+        return told
+
+    def joined(self, name, other, theirs):
+        return [
+            (mine, yours) for mine in self.rows for yours in other.rows
+            if self.rows[mine][name] is not None and self.rows[mine][name] == other.rows[yours][theirs]
+        ]

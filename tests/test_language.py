@@ -138,6 +138,46 @@ class Language(unittest.TestCase):
                     self.assertEqual(node.level, 0, path)
                     self.assertEqual([each.asname for each in node.names if each.asname], [], path)
 
+    def test_no_local_is_called_like_an_import_or_a_class(self):
+        for path in sources():
+            nodes = list(walk(path))
+            drawn = {node.name for node in nodes if isinstance(node, (ast.alias, ast.ClassDef))}
+            local = {node.arg for node in nodes if isinstance(node, ast.arg)}
+            local |= {node.id for node in nodes if isinstance(node, ast.Name) and isinstance(node.ctx, ast.Store)}
+            self.assertEqual(drawn & local, set(), path)
+
+    def test_each_name_is_drawn_from_the_file_that_defines_it(self):
+        for path in sources():
+            for node in walk(path):
+                if isinstance(node, ast.ImportFrom):
+                    tree = ast.parse((PACKAGE / (node.module.split(".")[1] + ".py")).read_text())
+                    defined = {each.name for each in tree.body if isinstance(each, (ast.FunctionDef, ast.ClassDef))}
+                    defined |= {each.targets[0].id for each in tree.body if isinstance(each, ast.Assign)}
+                    for each in node.names:
+                        self.assertIn(each.name, defined, path)
+
+    def test_sets_are_not_kept(self):
+        for path in sources():
+            for node in walk(path):
+                if isinstance(node, (ast.Assign, ast.Return)) and isinstance(node.value, ast.Call):
+                    self.assertNotEqual(getattr(node.value.func, "id", ""), "set", path)
+
+    def test_what_is_walked_at_once_is_not_kept(self):
+        for path in sources():
+            for node in walk(path):
+                if isinstance(node, (ast.Assign, ast.Return)) and isinstance(node.value, ast.Call):
+                    called = node.value.func
+                    name = getattr(called, "id", getattr(called, "attr", ""))
+                    self.assertNotIn(name, ("zip", "enumerate", "reversed", "range", "items", "keys", "values"), path)
+
+    def test_no_method_is_handed_on(self):
+        for path in sources():
+            nodes = list(walk(path))
+            called = [node.func for node in nodes if isinstance(node, ast.Call)]
+            for node in nodes:
+                if isinstance(node, ast.Attribute) and node.attr in METHODS | own_methods():
+                    self.assertIn(node, called, (path, node.attr))
+
     def test_methods_and_values(self):
         methods, values = own_methods(), own_values()
         self.assertEqual(methods & values, set())

@@ -23,12 +23,12 @@ BOOK_BITS = 6
 WIDTH_BITS = 5
 
 
+def is_whole(thing):
+    return isinstance(thing, int) and not isinstance(thing, bool)
+
+
 def is_value(value):
-    if value is None:
-        return True
-    if not isinstance(value, int) or isinstance(value, bool):
-        return False
-    return -FARTHEST <= value <= FARTHEST
+    return value is None or (is_whole(value) and -FARTHEST <= value <= FARTHEST)
 
 
 def are_values(values):
